@@ -1,0 +1,43 @@
+// Package anew answers what it is given in memory of its own: what is answered shares none with what was handed in, nor one list of it with another, though those handed in may.
+package anew
+
+import (
+	"bytes"
+	"slices"
+
+	"hocket/api"
+)
+
+// Each answers a row of its own of what one makes of each in l.
+func Each[T any](l []T, one func(T) T) []T {
+	out := make([]T, 0, len(l))
+	for _, x := range l {
+		out = append(out, one(x))
+	}
+	return out
+}
+
+// Pair answers p anew.
+func Pair(p api.Pair) api.Pair {
+	return api.Pair{Key: bytes.Clone(p.Key), Val: bytes.Clone(p.Val)}
+}
+
+// Objects answers s anew.
+func Objects(s api.Objects) api.Objects {
+	return api.Objects{Reg: bytes.Clone(s.Reg), Queue: Each(s.Queue, bytes.Clone), Lock: slices.Clone(s.Lock), Map: Each(s.Map, Pair)}
+}
+
+// Result answers r anew.
+func Result(r api.Result) api.Result {
+	return api.Result{Err: r.Err, Val: bytes.Clone(r.Val), N: r.N}
+}
+
+// Last answers l anew.
+func Last(l api.Last) api.Last {
+	return api.Last{Sess: l.Sess, Seq: l.Seq, Result: Result(l.Result)}
+}
+
+// Machine answers m anew.
+func Machine(m api.Machine) api.Machine {
+	return api.Machine{Objects: Objects(m.Objects), Table: Each(m.Table, Last)}
+}

@@ -1,0 +1,109 @@
+package anew_test
+
+import (
+	"bytes"
+	"fmt"
+	"testing"
+
+	"hocket/anew"
+	"hocket/api"
+)
+
+// handed is a machine whose lists all lie in one room, with spare room behind each; with one set each list of bytes is the same one.
+func handed(one bool) (m api.Machine, room []byte) {
+	room = bytes.Repeat([]byte{0x5a}, 640)
+	at := 0
+	place := func(s string) []byte {
+		if one {
+			return append(room[:0:64], "one"...)
+		}
+		at += 64
+		return append(room[at-64:at-64:at], s...)
+	}
+	m.Objects = api.Objects{Reg: place("reg"), Queue: [][]byte{place("q"), place(""), place("w")}[:2], Lock: []int{3, 1, 2}[:2]}
+	m.Objects.Map = []api.Pair{{Key: place("k"), Val: place("v")}, {}}[:1]
+	m.Table = []api.Last{{Sess: 1, Seq: 2, Result: api.Result{Err: 3, Val: place("r"), N: 4}}, {Sess: 5, Seq: 6, Result: api.Result{Val: place("s"), N: -1}}}
+	return m, room
+}
+
+// lists are all lists of bytes of m.
+func lists(m api.Machine) [][]byte {
+	l := append([][]byte{m.Objects.Reg}, m.Objects.Queue...)
+	for _, p := range m.Objects.Map {
+		l = append(l, p.Key, p.Val)
+	}
+	for _, x := range m.Table {
+		l = append(l, x.Result.Val)
+	}
+	return l
+}
+
+// told is m as a text, in which nil is an empty list.
+func told(m api.Machine) string {
+	s := fmt.Sprintf("%q %q %v %q", m.Objects.Reg, m.Objects.Queue, m.Objects.Lock, m.Objects.Map)
+	for _, l := range m.Table {
+		s += fmt.Sprintf(" %d %d %d %q %d", l.Sess, l.Seq, l.Result.Err, l.Result.Val, l.Result.N)
+	}
+	return s
+}
+
+// Rule 3: what is answered is what was handed in, nil as an empty list.
+func TestAlike(t *testing.T) {
+	for _, one := range []bool{false, true} {
+		m, _ := handed(one)
+		if got := anew.Machine(m); told(got) != told(m) {
+			t.Errorf("%s, not %s", told(got), told(m))
+		}
+	}
+	if got := anew.Machine(api.Machine{}); told(got) != told(api.Machine{}) {
+		t.Error(told(got))
+	}
+	if got := anew.Each([]int{1, 2, 3}, func(n int) int { return 10 * n }); fmt.Sprint(got) != "[10 20 30]" {
+		t.Error(got)
+	}
+	if got := anew.Each(nil, func(n int) int { return n }); len(got) != 0 {
+		t.Error(got)
+	}
+}
+
+// Rule 3: what is done to a list that is answered, and to the room behind it, is not seen in what was handed in, nor in another list of the answer.
+func TestApart(t *testing.T) {
+	for _, one := range []bool{false, true} {
+		m, room := handed(one)
+		was, roomWas := told(m), bytes.Clone(room)
+		for i := range lists(m) {
+			l := lists(anew.Machine(m))
+			for k := range l[i][:cap(l[i])] {
+				l[i][:cap(l[i])][k] ^= 0xff
+			}
+			for k, x := range lists(m) {
+				if k != i && string(l[k]) != string(x) {
+					t.Errorf("list %d is list %d", i, k)
+				}
+			}
+		}
+		got := anew.Machine(m)
+		clear(got.Objects.Queue[:cap(got.Objects.Queue)])
+		clear(got.Objects.Lock[:cap(got.Objects.Lock)])
+		clear(got.Objects.Map[:cap(got.Objects.Map)])
+		clear(got.Table[:cap(got.Table)])
+		if told(m) != was || !bytes.Equal(room, roomWas) || string(m.Objects.Queue[:3][2]) == "" || m.Objects.Lock[:3][2] != 2 {
+			t.Errorf("%s, not %s", told(m), was)
+		}
+	}
+}
+
+// Rule 3: what is done later to what was handed in is not seen in an answer.
+func TestNothingIsKept(t *testing.T) {
+	m, room := handed(false)
+	got := anew.Machine(m)
+	was := told(got)
+	clear(room)
+	clear(m.Objects.Queue)
+	clear(m.Objects.Lock)
+	clear(m.Objects.Map)
+	clear(m.Table)
+	if told(got) != was {
+		t.Errorf("%s, then %s", was, told(got))
+	}
+}
