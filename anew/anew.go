@@ -41,3 +41,13 @@ func Last(l api.Last) api.Last {
 func Machine(m api.Machine) api.Machine {
 	return api.Machine{Objects: Objects(m.Objects), Table: Each(m.Table, Last)}
 }
+
+// Cmd answers c anew.
+func Cmd(c api.Cmd) api.Cmd {
+	return api.Cmd{Kind: c.Kind, Who: c.Who, Key: bytes.Clone(c.Key), Val: bytes.Clone(c.Val), Old: bytes.Clone(c.Old)}
+}
+
+// Entry answers e anew.
+func Entry(e api.Entry) api.Entry {
+	return api.Entry{Sess: e.Sess, Seq: e.Seq, Cmd: Cmd(e.Cmd)}
+}

@@ -107,3 +107,44 @@ func TestNothingIsKept(t *testing.T) {
 		t.Errorf("%s, then %s", was, told(got))
 	}
 }
+
+// entry is an entry whose lists lie in one room, with spare room behind each; with one set each is the same list.
+func entry(one bool) (e api.Entry, room []byte) {
+	m, room := handed(one)
+	l := lists(m)
+	return api.Entry{Sess: 1, Seq: 2, Cmd: api.Cmd{Kind: 3, Who: 4, Key: l[0], Val: l[1], Old: l[3]}}, room
+}
+
+// Rule 3: an entry that is answered is what was handed in, in memory of its own, each list apart from the others.
+func TestEntry(t *testing.T) {
+	for _, one := range []bool{false, true} {
+		e, room := entry(one)
+		was, roomWas := fmt.Sprint(e), bytes.Clone(room)
+		last := anew.Entry(e)
+		if fmt.Sprint(last) != was {
+			t.Errorf("%v, not %s", last, was)
+		}
+		for i := range 3 {
+			got, clean := anew.Entry(e), anew.Entry(e)
+			l := [][]byte{got.Cmd.Key, got.Cmd.Val, got.Cmd.Old}
+			for k := range l[i][:cap(l[i])] {
+				l[i][:cap(l[i])][k] ^= 0xff
+			}
+			for k, x := range [][]byte{clean.Cmd.Key, clean.Cmd.Val, clean.Cmd.Old} {
+				if k != i && !bytes.Equal(l[k], x) {
+					t.Errorf("list %d is list %d", i, k)
+				}
+			}
+		}
+		if fmt.Sprint(e) != was || !bytes.Equal(room, roomWas) {
+			t.Errorf("%v, not %s", e, was)
+		}
+		clear(room)
+		if fmt.Sprint(last) != was {
+			t.Errorf("%s, then %v", was, last)
+		}
+	}
+	if got := anew.Entry(api.Entry{}); fmt.Sprint(got) != fmt.Sprint(api.Entry{}) {
+		t.Error(got)
+	}
+}
