@@ -51,3 +51,13 @@ func Cmd(c api.Cmd) api.Cmd {
 func Entry(e api.Entry) api.Entry {
 	return api.Entry{Sess: e.Sess, Seq: e.Seq, Cmd: Cmd(e.Cmd)}
 }
+
+// Msg answers m anew.
+func Msg(m api.Msg) api.Msg {
+	// Of a message most fields are numbers: they come along as they are.
+	m.Data = bytes.Clone(m.Data)
+	m.Have = slices.Clone(m.Have)
+	m.Need = slices.Clone(m.Need)
+	m.Entry = Entry(m.Entry)
+	return m
+}

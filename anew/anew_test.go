@@ -148,3 +148,70 @@ func TestEntry(t *testing.T) {
 		t.Error(got)
 	}
 }
+
+// message is a message whose lists lie in two rooms, with spare room behind each; with one set each list of bytes is the same one, and so is each row.
+func message(one bool) (m api.Msg, room []byte, row []int) {
+	e, room := entry(one)
+	row = []int{3, 1, 2, 6, 4, 5}
+	m = api.Msg{Kind: 1, From: 2, To: 3, View: 4, Inst: 5, Len: 6, Has: true, Members: 7, Source: 8, At: 9, Total: 10, Hop: 11, Seq: 12, Index: 13, Entry: e}
+	m.Data, m.Have, m.Need = append(room[576:576], "data"...), row[:2:3], row[3:5]
+	if one {
+		m.Data, m.Need = e.Cmd.Key, m.Have
+	}
+	return m, room, row
+}
+
+// texts and rows are all lists of m.
+func texts(m api.Msg) [][]byte {
+	return [][]byte{m.Data, m.Entry.Cmd.Key, m.Entry.Cmd.Val, m.Entry.Cmd.Old}
+}
+
+func rows(m api.Msg) [][]int {
+	return [][]int{m.Have, m.Need}
+}
+
+// turn turns all of l, and of the room behind it.
+func turn[T byte | int](l []T) {
+	for k := range l[:cap(l)] {
+		l[:cap(l)][k] ^= 0x7f
+	}
+}
+
+// Rule 3: a message that is answered is what was handed in, in memory of its own, each list apart from the others.
+func TestMsg(t *testing.T) {
+	for _, one := range []bool{false, true} {
+		m, room, row := message(one)
+		was, roomWas, rowWas := fmt.Sprint(m), bytes.Clone(room), fmt.Sprint(row)
+		last := anew.Msg(m)
+		if fmt.Sprint(last) != was {
+			t.Errorf("%v, not %s", last, was)
+		}
+		for i := range texts(m) {
+			l := texts(anew.Msg(m))
+			turn(l[i])
+			for k, x := range texts(m) {
+				if k != i && !bytes.Equal(l[k], x) {
+					t.Errorf("bytes %d are bytes %d", i, k)
+				}
+			}
+		}
+		for i := range rows(m) {
+			l := rows(anew.Msg(m))
+			turn(l[i])
+			if k := 1 - i; fmt.Sprint(l[k]) != fmt.Sprint(rows(m)[k]) {
+				t.Errorf("row %d is row %d", i, k)
+			}
+		}
+		if fmt.Sprint(m) != was || !bytes.Equal(room, roomWas) || fmt.Sprint(row) != rowWas {
+			t.Errorf("%v, not %s", m, was)
+		}
+		clear(room)
+		clear(row)
+		if fmt.Sprint(last) != was {
+			t.Errorf("%s, then %v", was, last)
+		}
+	}
+	if got := anew.Msg(api.Msg{}); fmt.Sprint(got) != fmt.Sprint(api.Msg{}) {
+		t.Error(got)
+	}
+}
